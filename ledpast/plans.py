@@ -87,6 +87,11 @@ def ways_on(end):
     return tuple(parts_of_kind(end, END_PARTS[end[0]], "piece"))
 
 
+def without_ways(end):
+    """What the end is but for the pieces to which it leads."""
+    return end[:len(end) - len(ways_on(end))]
+
+
 def reached(plan):
     """The pieces to which ways on lead from piece 0, rising."""
     found = {0}
