@@ -2,7 +2,7 @@
 
 from ledpast.errors import TooMany
 from ledpast.facts import behind, leads, start
-from ledpast.plans import heads, without_ways
+from ledpast.plans import Row, heads, without_ways
 
 MOST_TO_LEAD = 60
 MOST_NEEDED = 300
@@ -31,21 +31,15 @@ def led_past(plan, most):
     if len(plan) > MOST_TO_LEAD:
         raise TooMany(f"a plan of {len(plan)} pieces is not led past")
     tops = heads(plan)
-    copies = [(0, () if 0 in tops else start(plan))]
-    places = {copies[0]: 0}
+    copies = Row((0, () if 0 in tops else start(plan)))
     pieces = []
-    while len(pieces) < len(copies):
-        piece, facts = copies[len(pieces)]
+    while len(pieces) < len(copies.members):
+        piece, facts = copies.members[len(pieces)]
         deeds, end = plan[piece]
-        ways = []
-        for lead in leads(behind(facts, deeds), end):
-            met = copy_for(lead, tops, places, most)
-            if met not in places:
-                places[met] = len(copies)
-                copies.append(met)
-            ways.append(places[met])
+        ahead = leads(behind(facts, deeds), end)
+        ways = [copies.place_of(copy_for(lead, tops, copies.places, most)) for lead in ahead]
         pieces.append((deeds, end_to(end, ways)))
-    return (tuple(pieces), tuple(copies))
+    return (tuple(pieces), tuple(copies.members))
 
 
 def needed(plan):

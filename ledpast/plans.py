@@ -92,6 +92,32 @@ def without_ways(end):
     return end[:len(end) - len(ways_on(end))]
 
 
+class Row:
+    """Things that are numbered from 0 in the order in which they come up."""
+
+    def __init__(self, first):
+        self.members = [first]
+        self.places = {first: 0}
+
+    def place_of(self, thing):
+        """The thing's number; what is not there yet comes up as the last one."""
+        if thing not in self.places:
+            self.places[thing] = len(self.members)
+            self.members.append(thing)
+        return self.places[thing]
+
+
+def with_steads(plan, steads):
+    """The plan with another piece in each one's stead, as they come up from 0 on, and their numbers in the plan."""
+    row = Row(steads[0])
+    pieces = []
+    while len(pieces) < len(row.members):
+        deeds, end = plan[row.members[len(pieces)]]
+        ways = [row.place_of(steads[way]) for way in ways_on(end)]
+        pieces.append((deeds, without_ways(end) + tuple(ways)))
+    return (tuple(pieces), tuple(row.members))
+
+
 def reached(plan):
     """The pieces to which ways on lead from piece 0, rising."""
     found = {0}

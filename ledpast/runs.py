@@ -28,6 +28,10 @@ class Stand:
         """Whether the next step is a read for which no number is left."""
         return self.coming()[0] == "read" and self.taken == len(self.numbers)
 
+    def is_held(self):
+        """Whether no further step can be done as things are."""
+        return self.over or self.lacks_number()
+
     def take_number(self):
         self.taken += 1
         return self.numbers[self.taken - 1]
@@ -61,7 +65,7 @@ class Stand:
             self.come_to(yes if answer_of((worth, worth), word, number) == "yes" else no)
 
     def do_step(self):
-        """Does the next step; it is not to be over, nor to lack a number."""
+        """Does the next step; the walker is not to be held."""
         deeds, end = self.pieces[self.passed[-1]]
         if self.place < len(deeds):
             self.do_deed(deeds[self.place])
@@ -70,21 +74,21 @@ class Stand:
 
 
 def go_on(stand, steps):
-    """Does so many steps, or fewer where the run is at its end; tells the run's word."""
-    for count in range(steps):
-        if stand.lacks_number():
-            return "dry"
+    """Does so many steps, or as many as can be done; tells how many."""
+    done = 0
+    while done < steps and not stand.is_held():
         stand.do_step()
-        if stand.over:
-            return "stop"
-    return "on"
+        done += 1
+    return done
 
 
 def run_at(plan, piece, worths, numbers, steps):
     """The word of the run that begins at the piece with these worths, and all that it tells."""
     stand = Stand(plan, piece, worths, numbers)
-    word = go_on(stand, steps)
-    return (word, tuple(stand.spoken))
+    done = go_on(stand, steps)
+    # The read that held it back is itself the last one of the run's steps.
+    held = "dry" if done < steps else "on"
+    return ("stop" if stand.over else held, tuple(stand.spoken))
 
 
 def run(plan, numbers, steps):
