@@ -92,6 +92,11 @@ def without_ways(end):
     return end[:len(end) - len(ways_on(end))]
 
 
+def with_piece(plan, place, piece):
+    """The plan with another piece at the place."""
+    return plan[:place] + (piece,) + plan[place + 1:]
+
+
 class Row:
     """Things that are numbered from 0 in the order in which they come up."""
 

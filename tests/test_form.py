@@ -186,7 +186,8 @@ class Language(unittest.TestCase):
 
     def test_the_package_has_what_the_interface_names(self):
         names = sorted([path.name for path in PACKAGE.glob("*.py")])
-        for name in ("errors", "stretches", "plans", "runs", "facts", "led", "papers", "short", "walkers", "tables", "live"):
+        for name in ("errors", "stretches", "plans", "runs", "facts", "led", "papers", "short", "walkers", "tables", "live", "alike",
+                     "keeper", "texts", "desk"):
             self.assertIn(name + ".py", names)
 
 

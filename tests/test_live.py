@@ -6,6 +6,7 @@ import unittest
 from ledpast.live import live, spare
 from ledpast.plans import is_plan
 from ledpast.runs import run, run_at
+from beside import NoMoreSteps
 from made import NAMES, Made, made_plans
 from worked import plain_live, plain_spare
 
@@ -244,30 +245,9 @@ class Spare(unittest.TestCase):
             self.assertEqual(live(spare(plan)), live(plan))
 
 
-class Runs(unittest.TestCase):
-    def plans(self):
-        return made_plans(250, 7)
-
-    def test_it_ends_wherever_the_plan_does_in_no_more_steps(self):
-        made, ends = Made(73), {"stop": 0, "dry": 0, "on": 0}
-        for plan in self.plans():
-            told, numbers = spare(plan), made.numbers(5)
-            for steps in list(range(20)) + [60, 300]:
-                word, said = run(plan, numbers, steps)
-                ends[word] += 1
-                if word != "on":
-                    self.assertEqual(run(told, numbers, steps), (word, said), (plan, numbers, steps))
-        self.assertGreater(min(ends.values()), 300)
-
-    def test_what_one_tells_is_a_beginning_of_what_the_other_tells(self):
-        made = Made(79)
-        for plan in self.plans():
-            told, numbers = spare(plan), made.numbers(5)
-            for steps in list(range(20)) + [60]:
-                mine, others = run(plan, numbers, steps)[1], run(told, numbers, steps)[1]
-                self.assertEqual(mine, others[:len(mine)], (plan, numbers, steps))
-                late = run(plan, numbers, 13 * steps)[1]
-                self.assertEqual(others, late[:len(others)], (plan, numbers, steps))
+class Runs(NoMoreSteps, unittest.TestCase):
+    def rows(self):
+        return [(plan, spare(plan), 13) for plan in made_plans(250, 7)]
 
     def test_thirteen_times_as_many(self):
         plan = (((put("b"),) * 12, ("go", 1)), ((TELL,), ("go", 0)))

@@ -6,7 +6,8 @@ import unittest
 from ledpast.plans import is_plan
 from ledpast.runs import run
 from ledpast.short import short
-from made import Made, made_plans
+from beside import NoMoreSteps
+from made import made_plans
 from worked import idle_plans, plain_short
 
 STOP = ("stop",)
@@ -128,30 +129,9 @@ class Long(unittest.TestCase):
         self.check(plan, plan, tuple(range(400)))
 
 
-class Runs(unittest.TestCase):
-    def plans(self):
-        return idle_plans(250, 7)
-
-    def test_it_ends_wherever_the_plan_does_in_no_more_steps(self):
-        made, ends = Made(41), {"stop": 0, "dry": 0, "on": 0}
-        for plan in self.plans():
-            told, numbers = short(plan)[0], made.numbers(5)
-            for steps in list(range(20)) + [60, 300]:
-                word, said = run(plan, numbers, steps)
-                ends[word] += 1
-                if word != "on":
-                    self.assertEqual(run(told, numbers, steps), (word, said), (plan, numbers, steps))
-        self.assertGreater(min(ends.values()), 300)
-
-    def test_what_one_tells_is_a_beginning_of_what_the_other_tells(self):
-        made = Made(43)
-        for plan in self.plans():
-            told, numbers = short(plan)[0], made.numbers(5)
-            for steps in list(range(20)) + [60]:
-                mine, shorts = run(plan, numbers, steps)[1], run(told, numbers, steps)[1]
-                self.assertEqual(mine, shorts[:len(mine)], (plan, numbers, steps))
-                late = run(plan, numbers, (len(plan) + 1) * steps)[1]
-                self.assertEqual(shorts, late[:len(shorts)], (plan, numbers, steps))
+class Runs(NoMoreSteps, unittest.TestCase):
+    def rows(self):
+        return [(plan, short(plan)[0], len(plan) + 1) for plan in idle_plans(250, 7)]
 
     def test_far_fewer_steps(self):
         plan = ((TELL, ("go", 1)),) + tuple([go((at + 2) % 400) for at in range(399)])

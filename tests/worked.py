@@ -1,6 +1,9 @@
-"""What the document says of short plans, walkers, tables and live names, worked out in a plain way of its own."""
+"""What the document says from short plans on, worked out in a plain way of its own."""
 
-from made import FAR, Made, closed, is_yes, opened, plain_behind, plain_covers, plain_sides
+import itertools
+import re
+
+from made import FAR, Made, closed, is_yes, opened, plain_behind, plain_covers, plain_led, plain_sides
 
 
 def ways(end):
@@ -160,3 +163,115 @@ def plain_spare(plan):
             names = plain_ahead(deed, names)
         pieces.append((tuple(kept), end))
     return tuple(pieces)
+
+
+def sides_of(end):
+    """A dict from the sides of an end to its ways on."""
+    return dict(zip(("go",) if end[0] == "go" else ("yes", "no"), ways(end)))
+
+
+def plain_surface(plan, at):
+    deeds, end = plan[at]
+    return deeds, end[:len(end) - len(ways(end))]
+
+
+def plain_come(plan, at, sides):
+    """The piece to which the sides lead, or None where there is no such side."""
+    for side in sides:
+        at = sides_of(plan[at][1]).get(side)
+        if at is None:
+            return None
+    return at
+
+
+def plain_parting(plan, one, other):
+    """All tuples of sides are gone through, the shortest and least first; two pieces of n part by fewer than n sides."""
+    for many in range(len(plan)):
+        for sides in itertools.product(("go", "no", "yes"), repeat=many):
+            first, second = plain_come(plan, one, sides), plain_come(plan, other, sides)
+            if None not in (first, second) and plain_surface(plan, first) != plain_surface(plan, second):
+                return sides
+    return None
+
+
+def plain_alike(plan):
+    """Pairs are marked that are unlike, or lead to such, until there are no more."""
+    count = len(plan)
+    apart = {(a, b) for a in range(count) for b in range(count) if plain_surface(plan, a) != plain_surface(plan, b)}
+    before = -1
+    while len(apart) > before:
+        before = len(apart)
+        for a in range(count):
+            for b in range(count):
+                if any([pair in apart for pair in zip(ways(plan[a][1]), ways(plan[b][1]))]):
+                    apart.add((a, b))
+    return tuple([min([b for b in range(count) if (a, b) not in apart]) for a in range(count)])
+
+
+def plain_joined(plan):
+    least = plain_alike(plan)
+    order = [least[0]]
+    for at in order:
+        for way in ways(plan[at][1]):
+            if least[way] not in order:
+                order.append(least[way])
+    pieces = []
+    for at in order:
+        deeds, end = plain_surface(plan, at)
+        pieces.append((deeds, end + tuple([order.index(least[way]) for way in ways(plan[at][1])])))
+    return tuple(pieces), tuple([order.index(at) if at in order else None for at in least])
+
+
+class PlainKeeper:
+    """What point 32 says, word by word."""
+
+    def __init__(self, plan, most):
+        self.now, self.most, self.count = plan, most, 1
+        self.past, self.copies = plain_led(plan, most)
+
+    def exchange(self, place, piece):
+        self.now = self.now[:place] + (piece,) + self.now[place + 1:]
+        numbers = [at for at, (number, _) in enumerate(self.copies) if number == place]
+        past = list(self.past)
+        for at in numbers:
+            came = []
+            for _, way, facts in plain_sides(plain_behind(self.copies[at][1], piece[0]), piece[1]):
+                met = [k for k, (number, known) in enumerate(self.copies) if number == way and plain_covers(known, facts)]
+                came += met[:1] or [None]
+            if None in came:
+                self.past, self.copies = plain_led(self.now, self.most)
+                self.count += 1
+                return None
+            past[at] = (piece[0], ("go", came[0]) if len(came) == 1 else piece[1][:3] + tuple(came))
+        self.past = tuple(past)
+        return tuple(numbers)
+
+
+NUMBER = "(?:0|-?[1-9][0-9]{0,39})"
+NAME = "[a-z]{1,8}"
+DEED = f"(?:(?:put|add) {NAME} {NUMBER}|copy {NAME} {NAME}|(?:read|tell) {NAME})"
+END = f"(?:stop|go {NUMBER}|(?:less|is) {NAME} {NUMBER} {NUMBER} {NUMBER})"
+LINE = re.compile(f"(?:{DEED}; ){{0,12}}{END}")
+
+
+def plain_step(text):
+    return tuple([int(word) if re.fullmatch(NUMBER, word) else word for word in text.split(" ")])
+
+
+def plain_piece(line, count):
+    """The piece that a line writes, or None."""
+    if not LINE.fullmatch(line):
+        return None
+    steps = [plain_step(text) for text in line.split("; ")]
+    if [way for way in ways(steps[-1]) if not 0 <= way < count]:
+        return None
+    return tuple(steps[:-1]), steps[-1]
+
+
+def plain_plan(text):
+    """The plan that a text writes, or the name of the refusal and its field."""
+    lines = text.split("\n")
+    if len(lines) > 400:
+        return "TooMany", None
+    pieces = [plain_piece(line, len(lines)) for line in lines]
+    return ("NoPlan", pieces.index(None)) if None in pieces else tuple(pieces)
