@@ -129,6 +129,7 @@ BREACHES = (
     ("L22", "def one(x):\n    f = len\n    return f(x)\n"),
     ("L23", "def one(xs):\n    rows = zip(xs, xs)\n    return list(rows)\n"),
     ("L23", "def one(xs):\n    return xs.items()\n"),
+    ("L23", "def one(xs):\n    return None in xs.values()\n"),
     ("L23", "def one(xs):\n    for x in xs:\n        xs.append(x)\n"),
     ("L23", "def one(xs):\n    for at, x in enumerate(xs):\n        xs[at] = 1\n"),
     ("L23", "def one(xs):\n    for x in xs:\n        xs += [x]\n"),
@@ -183,6 +184,15 @@ class Language(unittest.TestCase):
             "two.py": "from ledpast.one import a\n\n\ndef b():\n    return a()\n",
         }
         self.assertEqual([fault[0] for fault in faults(two)], ["L16", "L16"])
+
+    def test_names_across_files(self):
+        value = "class One:\n    def __init__(self):\n        self.word = 1\n"
+        method = "class Two:\n    def word(self):\n        return 1\n"
+        self.assertIn("L18", [fault[0] for fault in faults({"__init__.py": "", "one.py": value, "two.py": method})])
+        for row in ("A[1] = 3", "return [A]", "A.update({})"):
+            two = f"from ledpast.one import A\n\n\ndef one():\n    {row}\n"
+            found = faults({"__init__.py": "", "one.py": "A = {1: 2}\n", "two.py": two})
+            self.assertIn("L15", [fault[0] for fault in found], row)
 
     def test_the_package_has_what_the_interface_names(self):
         names = sorted([path.name for path in PACKAGE.glob("*.py")])
